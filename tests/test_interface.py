@@ -1,0 +1,136 @@
+"""The interface: what is given back, and that nothing else is done."""
+
+import ast
+import contextlib
+import inspect
+import io
+import pathlib
+import subprocess
+import sys
+import unittest
+
+import wideunit.unit
+from tests.support import (
+    GREATEST, LEAST, LOUD, MINUS_INF, MINUS_ONE, NEARLY_SMALL, ODD_ONES, ONE, ONE_OPS, PLUS_INF, PLUS_ZERO, PRECISIONS,
+    PREM, PREM1, QUIET, ROUNDINGS, TOO_MANY, TWO_OPS, ext)
+from wideunit.unit import one, two
+
+ROOT = pathlib.Path(__file__).resolve().parent.parent
+OPERANDS = (
+    PLUS_ZERO, LEAST, NEARLY_SMALL, ONE, MINUS_ONE, GREATEST, PLUS_INF, MINUS_INF, QUIET, LOUD, ODD_ONES[0],
+    ext(0xC000, 0xC90FDAA22168C235), TOO_MANY[0])
+
+
+def calls():
+    for r in ROUNDINGS:
+        for q in PRECISIONS:
+            for a in OPERANDS:
+                for op in ONE_OPS:
+                    yield one, (op, q, r, a)
+                for b in OPERANDS:
+                    for op in TWO_OPS:
+                        yield two, (op, q, r, a, b)
+
+
+class GivenBack(unittest.TestCase):
+    def test_a_list_of_whole_numbers(self):
+        for call, handed in calls():
+            told = call(*handed)
+            self.assertIs(type(told), list)
+            self.assertTrue(all(type(x) is int for x in told), (handed, told))
+
+    def test_how_many(self):
+        for call, handed in calls():
+            told = call(*handed)
+            if TOO_MANY[0] in handed:
+                self.assertEqual(told, [-1])
+                continue
+            four = (PREM, PREM1) if call is two else (4,)
+            self.assertEqual(len(told), 4 if handed[0] in four else 3)
+            self.assertEqual(told[0], 0)
+            self.assertTrue(all(0 <= x < 1 << 80 for x in told))
+
+    def test_names_of_the_arguments(self):
+        self.assertEqual(list(inspect.signature(wideunit.unit.two).parameters), ["op", "q", "r", "a", "b"])
+        self.assertEqual(list(inspect.signature(wideunit.unit.one).parameters), ["op", "q", "r", "a"])
+        self.assertEqual(two(op=0, q=64, r=0, a=ONE, b=PLUS_ZERO), [0, ONE, 0])
+        self.assertEqual(one(op=2, q=64, r=0, a=MINUS_ONE), [0, ONE, 0])
+
+
+class NothingKept(unittest.TestCase):
+    def test_in_whatever_order(self):
+        first = [call(*handed) for call, handed in calls()]
+        second = [call(*handed) for call, handed in reversed(list(calls()))]
+        self.assertEqual(first, second[::-1])
+
+    def test_what_was_given_back_may_be_changed(self):
+        for call, handed in calls():
+            told = call(*handed)
+            asked = list(told)
+            told.append(7)
+            told[0] = 99
+            self.assertEqual(call(*handed), asked)
+
+    def test_nothing_at_the_files_tops_changes(self):
+        def state():
+            return {(name, key): repr(kept) for name, module in sys.modules.items() if name.startswith("wideunit")
+                    for key, kept in vars(module).items() if not key.startswith("__")}
+        before = state()
+        for call, handed in calls():
+            call(*handed)
+        self.assertEqual(state(), before)
+
+
+class NothingElseDone(unittest.TestCase):
+    def test_nothing_is_printed(self):
+        out, err = io.StringIO(), io.StringIO()
+        with contextlib.redirect_stdout(out), contextlib.redirect_stderr(err):
+            for call, handed in calls():
+                call(*handed)
+        self.assertEqual((out.getvalue(), err.getvalue()), ("", ""))
+
+    def test_nothing_from_outside_is_imported(self):
+        for path in (ROOT / "wideunit").rglob("*.py"):
+            for node in ast.walk(ast.parse(path.read_text())):
+                self.assertNotIsInstance(node, ast.Import if path.name != "__main__.py" else ast.Global)
+                if isinstance(node, ast.ImportFrom):
+                    self.assertEqual(node.level, 0)
+                    self.assertIn(node.module.split(".")[0], ("wideunit", "__future__"))
+
+    def test_by_itself_in_a_new_python(self):
+        code = (
+            "import sys; before = set(sys.modules); import wideunit.unit; "
+            "told = wideunit.unit.two(3, 64, 0, 0x3FFF8000000000000000, 0x4000C000000000000000); "
+            "told += wideunit.unit.one(0, 64, 0, 0x40008000000000000000); "
+            "print(told, sorted(name for name in set(sys.modules) - before if not name.startswith('wideunit')))")
+        run = subprocess.run([sys.executable, "-c", code], cwd=ROOT, capture_output=True, text=True, check=True)
+        third, root = 0x3FFDAAAAAAAAAAAAAAAB, 0x3FFFB504F333F9DE6484
+        self.assertEqual(run.stdout, f"{[0, third, 160, 0, root, 32]} []\n")
+        self.assertEqual(run.stderr, "")
+
+    def test_calls_are_not_nested_deep(self):
+        deepest = 0
+
+        def watch(frame, event, argument):
+            nonlocal deepest
+            if event == "call":
+                depth = 0
+                while frame is not None:
+                    depth, frame = depth + 1, frame.f_back
+                deepest = max(deepest, depth)
+
+        own = len(inspect.stack())
+        far = ((two, (op, 64, 0, GREATEST, LEAST)) for op in TWO_OPS)
+        wide = ((one, (op, 64, 0, a)) for op in ONE_OPS for a in (GREATEST, LEAST))
+        sys.setprofile(watch)
+        try:
+            for call, handed in [*far, *wide]:
+                call(*handed)
+        finally:
+            sys.setprofile(None)
+        self.assertGreater(deepest, own)
+        self.assertLess(deepest - own, 100)
+
+
+if __name__ == "__main__":
+    unittest.main()

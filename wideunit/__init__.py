@@ -1,0 +1,1 @@
+"""The arithmetic of a floating unit of eighty bits; the calls stand in wideunit.unit."""

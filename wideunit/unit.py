@@ -1,0 +1,94 @@
+"""The calls of the unit: each answers a list, 0 and what is told, or a refusal alone."""
+
+from wideunit.arithmetic import added, divided, multiplied, square_root, subtracted
+from wideunit.compare import compared, compared_quietly, examined
+from wideunit.floats import Number, too_many_bits, turned, without_sign, zero_bits
+from wideunit.operands import no_number_told, with_small_told
+from wideunit.powers import extracted, rounded_to_whole, scaled
+from wideunit.remainder import remainder
+
+TOO_MANY_BITS = -1
+
+ADD = 0
+SUB = 1
+MUL = 2
+DIV = 3
+PREM = 4
+PREM1 = 5
+SCALE = 6
+COM = 7
+UCOM = 8
+
+SQRT = 0
+RINT = 1
+ABS = 2
+CHS = 3
+EXTRACT = 4
+TST = 5
+XAM = 6
+
+
+def two(op, q, r, a, b):
+    """add, sub, mul, div, prem, prem1, scale, com or ucom, by op from 0 on, of the bits a and b."""
+    if too_many_bits(a) or too_many_bits(b):
+        return [TOO_MANY_BITS]
+    return [0] + told_of_two(op, q, r, Number(a), Number(b))
+
+
+def told_of_two(op, q, r, a, b):
+    if op == COM:
+        return compared(a, b)
+    if op == UCOM:
+        return compared_quietly(a, b)
+    came = no_number_told([a, b])
+    if came is None:
+        return with_small_told(result_of_two(op, q, r, a, b), [a, b])
+    if op in (PREM, PREM1):
+        return [came[0], 0, came[1]]
+    return came
+
+
+def result_of_two(op, q, r, a, b):
+    if op == ADD:
+        return added(a, b, q, r)
+    if op == SUB:
+        return subtracted(a, b, q, r)
+    if op == MUL:
+        return multiplied(a, b, q, r)
+    if op == DIV:
+        return divided(a, b, q, r)
+    if op == SCALE:
+        return scaled(a, b, r)
+    return remainder(a, b, op == PREM1)
+
+
+def one(op, q, r, a):
+    """sqrt, rint, abs, chs, extract, tst or xam, by op from 0 on, of the bits a."""
+    if too_many_bits(a):
+        return [TOO_MANY_BITS]
+    return [0] + told_of_one(op, q, r, Number(a))
+
+
+def told_of_one(op, q, r, a):
+    if op == ABS:
+        return [without_sign(a.bits), 0]
+    if op == CHS:
+        return [turned(a.bits), 0]
+    if op == TST:
+        return compared(a, Number(zero_bits(0)))
+    if op == XAM:
+        return [examined(a), 0]
+    came = no_number_told([a])
+    if came is None:
+        return with_small_told(result_of_one(op, q, r, a), [a])
+    if op == EXTRACT:
+        return [came[0], came[0], came[1]]
+    return came
+
+
+def result_of_one(op, q, r, a):
+    if op == SQRT:
+        return square_root(a, q, r)
+    if op == RINT:
+        return rounded_to_whole(a, r)
+    return extracted(a)
