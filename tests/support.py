@@ -49,7 +49,12 @@ ODD_ONES = (
     ext(0x0001, 1),
     ext(0x7FFE, 0x4000000000000000),
 )
-TOO_MANY = (1 << 80, (1 << 80) + ONE, 79228162514264337593543950335)
+MOST = 79228162514264337593543950335
+TOO_MANY = (1 << 80, (1 << 80) + ONE, MOST)
+
+SINGLE, DOUBLE = NARROW = (1, 2)
+# By format: the digits, the least and the greatest exponent, how many bits there are in all.
+FORMATS = {SINGLE: (24, -126, 127, 32), DOUBLE: (53, -1022, 1023, 64)}
 
 
 def minus(bits):
@@ -337,6 +342,57 @@ def told_by_one(op, q, r, a):
     else:
         told = extract_told(a)
     return [0] + with_small([a], told)
+
+
+def narrow_parts(f, x):
+    """The sign, the exponent bits and the fraction of a single or double one."""
+    p, width = FORMATS[f][0], FORMATS[f][3]
+    return x >> width - 1, x >> p - 1 & (1 << width - p) - 1, x & (1 << p - 1) - 1
+
+
+def narrow_joined(f, s, exponent_bits, fraction):
+    p, width = FORMATS[f][0], FORMATS[f][3]
+    return s << width - 1 | exponent_bits << p - 1 | fraction
+
+
+def narrow_kind(f, x):
+    exponent_bits, fraction = narrow_parts(f, x)[1:]
+    p, width = FORMATS[f][0], FORMATS[f][3]
+    if exponent_bits == 0:
+        return "small" if fraction else "zero"
+    if exponent_bits < (1 << width - p) - 1:
+        return "normal"
+    if fraction == 0:
+        return "infinite"
+    return "quiet" if fraction >> p - 2 else "loud"
+
+
+def narrow_value(f, x):
+    s, exponent_bits, fraction = narrow_parts(f, x)
+    p, emin = FORMATS[f][:2]
+    m = fraction + (1 << p - 1 if exponent_bits else 0)
+    size = m * power_of_two((exponent_bits or 1) + emin - p)
+    return -size if s else size
+
+
+def told_by_load(f, x):
+    """The whole answer that the document asks of load."""
+    p, width = FORMATS[f][0], FORMATS[f][3]
+    if x >= 1 << width:
+        return [-1]
+    s, fraction = narrow_parts(f, x)[0], narrow_parts(f, x)[2]
+    came = narrow_kind(f, x)
+    if came == "infinite":
+        return [0, signed(PLUS_INF, s), 0]
+    if came in ("quiet", "loud"):
+        bits = signed(PLUS_INF, s) | fraction << 64 - p | 1 << 62
+        return [0, bits, INVALID if came == "loud" else 0]
+    return [0, floats_bits(narrow_value(f, x), s), SMALL_IN if came == "small" else 0]
+
+
+def told_by_loadw(z):
+    """The whole answer that the document asks of loadw."""
+    return [0, floats_bits(z)] if -(1 << 63) <= z <= (1 << 63) - 1 else [-1]
 
 
 def hexed(told):

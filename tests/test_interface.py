@@ -11,14 +11,17 @@ import unittest
 
 import wideunit.unit
 from tests.support import (
-    GREATEST, LEAST, LOUD, MINUS_INF, MINUS_ONE, NEARLY_SMALL, ODD_ONES, ONE, ONE_OPS, PLUS_INF, PLUS_ZERO, PRECISIONS,
-    PREM, PREM1, QUIET, ROUNDINGS, TOO_MANY, TWO_OPS, ext)
-from wideunit.unit import one, two
+    EXTRACT, GREATEST, LEAST, LOUD, MINUS_INF, MINUS_ONE, MOST, NARROW, NEARLY_SMALL, ODD_ONES, ONE, ONE_OPS, PLUS_INF,
+    PLUS_ZERO, PRECISIONS, PREM, PREM1, QUIET, ROUNDINGS, TOO_MANY, TWO_OPS, ext)
+from wideunit.unit import load, loadw, one, two
 
 ROOT = pathlib.Path(__file__).resolve().parent.parent
 OPERANDS = (
     PLUS_ZERO, LEAST, NEARLY_SMALL, ONE, MINUS_ONE, GREATEST, PLUS_INF, MINUS_INF, QUIET, LOUD, ODD_ONES[0],
     ext(0xC000, 0xC90FDAA22168C235), TOO_MANY[0])
+NARROW_BITS = (0, 1, 0x3F800000, 0x7F800000, 0x7F800001, 0xFFC00000, 0x7FF0000000000001, (1 << 64) - 1, 1 << 64, MOST)
+WHOLE = (0, 1, -1, (1 << 63) - 1, -(1 << 63), 1 << 63, -(1 << 63) - 1, MOST, -MOST - 1)
+ARGUMENTS = {two: "op q r a b", one: "op q r a", load: "f x", loadw: "z"}
 
 
 def calls():
@@ -30,6 +33,26 @@ def calls():
                 for b in OPERANDS:
                     for op in TWO_OPS:
                         yield two, (op, q, r, a, b)
+    for f in NARROW:
+        for x in NARROW_BITS:
+            yield load, (f, x)
+    for z in WHOLE:
+        yield loadw, (z,)
+
+
+def is_refused(call, handed):
+    if call is load:
+        return handed[1] >= 1 << (32 if handed[0] == 1 else 64)
+    if call is loadw:
+        return not -(1 << 63) <= handed[0] < 1 << 63
+    return TOO_MANY[0] in handed
+
+
+def how_many(call, handed):
+    """How many numbers are told behind the 0."""
+    if call is two and handed[0] in (PREM, PREM1) or call is one and handed[0] == EXTRACT:
+        return 3
+    return 1 if call is loadw else 2
 
 
 class GivenBack(unittest.TestCase):
@@ -42,19 +65,21 @@ class GivenBack(unittest.TestCase):
     def test_how_many(self):
         for call, handed in calls():
             told = call(*handed)
-            if TOO_MANY[0] in handed:
+            if is_refused(call, handed):
                 self.assertEqual(told, [-1])
                 continue
-            four = (PREM, PREM1) if call is two else (4,)
-            self.assertEqual(len(told), 4 if handed[0] in four else 3)
             self.assertEqual(told[0], 0)
+            self.assertEqual(len(told), 1 + how_many(call, handed), (call, handed))
             self.assertTrue(all(0 <= x < 1 << 80 for x in told))
 
     def test_names_of_the_arguments(self):
-        self.assertEqual(list(inspect.signature(wideunit.unit.two).parameters), ["op", "q", "r", "a", "b"])
-        self.assertEqual(list(inspect.signature(wideunit.unit.one).parameters), ["op", "q", "r", "a"])
+        for call, names in ARGUMENTS.items():
+            self.assertEqual(list(inspect.signature(call).parameters), names.split())
+            self.assertIs(getattr(wideunit.unit, call.__name__), call)
         self.assertEqual(two(op=0, q=64, r=0, a=ONE, b=PLUS_ZERO), [0, ONE, 0])
         self.assertEqual(one(op=2, q=64, r=0, a=MINUS_ONE), [0, ONE, 0])
+        self.assertEqual(load(f=1, x=0x3F800000), [0, ONE, 0])
+        self.assertEqual(loadw(z=-1), [0, MINUS_ONE])
 
 
 class NothingKept(unittest.TestCase):

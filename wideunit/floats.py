@@ -1,5 +1,7 @@
 """Extended floats: taken apart into kind, sign and value, and put together again."""
 
+from wideunit.formats import endless_bits, extended_format, joined, value_bits
+
 ZERO = "zero"
 SMALL = "small"
 NEARLY_SMALL = "nearly small"
@@ -11,8 +13,6 @@ ODD = "odd"
 
 DIGITS = 64
 LEAST_EXPONENT = -16382
-GREATEST_EXPONENT = 16383
-EXPONENT_BIAS = 16383
 
 SIGN_PLACE = 79
 ALL_EXPONENT_BITS = 0x7FFF
@@ -57,10 +57,6 @@ def is_no_number(number):
     return number.kind in (QUIET, LOUD, ODD)
 
 
-def too_many_bits(bits):
-    return bits >> (SIGN_PLACE + 1) > 0
-
-
 def exponent_of(number):
     """The e with 2^e <= size < 2^(e + 1), of a finite number that isn't 0."""
     return number.significand.bit_length() - 1 + number.power
@@ -75,27 +71,16 @@ def without_sign(bits):
 
 
 def zero_bits(sign):
-    return sign << SIGN_PLACE
+    return joined(extended_format(), sign, 0, 0)
 
 
 def infinite_bits(sign):
-    return (sign << SIGN_PLACE) | (ALL_EXPONENT_BITS << DIGITS) | HIGHEST_SIGNIFICAND_BIT
-
-
-def shifted(whole, places):
-    """whole 2^places, cut to a whole number."""
-    return whole << places if places >= 0 else whole >> -places
+    return endless_bits(extended_format(), sign)
 
 
 def finite_bits(sign, size, power):
     """The bits of the float of the very value size 2^power: there must be one."""
-    if size == 0:
-        return zero_bits(sign)
-    exponent = size.bit_length() - 1 + power
-    exponent_bits = exponent + EXPONENT_BIAS if exponent >= LEAST_EXPONENT else 0
-    last_power = max(exponent, LEAST_EXPONENT) - DIGITS + 1
-    significand = shifted(size, power - last_power)
-    return (sign << SIGN_PLACE) | (exponent_bits << DIGITS) | significand
+    return value_bits(extended_format(), sign, size, power)
 
 
 def bits_by_value(number):

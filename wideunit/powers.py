@@ -2,7 +2,8 @@
 
 from wideunit.codes import DIVIDED_BY_ZERO, INVALID
 from wideunit.floats import DIGITS, EMPTY, INFINITE, ZERO
-from wideunit.floats import exponent_of, finite_bits, infinite_bits, shifted, zero_bits
+from wideunit.floats import exponent_of, finite_bits, infinite_bits, zero_bits
+from wideunit.formats import shifted
 from wideunit.rounding import flags_of_loss, rounded, rounded_multiple
 
 # Scaled by more than this, the least number overflows and the greatest comes below the least.

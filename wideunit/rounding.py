@@ -1,7 +1,7 @@
 """Exact values rounded to floats: size 2^power, with a sign beside it."""
 
 from wideunit.codes import CUT, DOWN, INEXACT, NEAR, OVERFLOW, UNDERFLOW, UP, UPWARD
-from wideunit.floats import GREATEST_EXPONENT, LEAST_EXPONENT, finite_bits, infinite_bits
+from wideunit.formats import endless_bits, extended_format, value_bits
 
 
 def rounds_away(sign, whole, rest, half, r):
@@ -39,29 +39,34 @@ def flags_of_loss(multiple, unit, size, power):
 
 
 def rounded(sign, size, power, q, r):
-    """The float of a value that isn't 0, to q digits: its bits and flags."""
+    """The extended float of a value that isn't 0, to q digits: its bits and flags."""
+    return rounded_to(extended_format(), sign, size, power, q, r)
+
+
+def rounded_to(form, sign, size, power, q, r):
+    """The format's float of a value that isn't 0, to q digits: its bits and flags."""
     unit = size.bit_length() + power - q
     multiple = rounded_multiple(sign, size, power, unit, r)
     # Asked of the rounded value: a carry may lift it over either edge.
     exponent = multiple.bit_length() - 1 + unit
-    if exponent > GREATEST_EXPONENT:
-        return overflowed(sign, q, r)
-    if exponent < LEAST_EXPONENT:
-        return rounded_small(sign, size, power, q, r)
-    return [finite_bits(sign, multiple, unit), flags_of_loss(multiple, unit, size, power)]
+    if exponent > form.greatest_exponent:
+        return overflowed(form, sign, q, r)
+    if exponent < form.least_exponent:
+        return rounded_small(form, sign, size, power, q, r)
+    return [value_bits(form, sign, multiple, unit), flags_of_loss(multiple, unit, size, power)]
 
 
-def rounded_small(sign, size, power, q, r):
+def rounded_small(form, sign, size, power, q, r):
     # Again from the exact value: what was rounded already must not be rounded twice.
-    unit = LEAST_EXPONENT - q + 1
+    unit = form.least_exponent - q + 1
     multiple = rounded_multiple(sign, size, power, unit, r)
     loss = flags_of_loss(multiple, unit, size, power)
     flags = UNDERFLOW + loss if loss else 0
-    return [finite_bits(sign, multiple, unit), flags]
+    return [value_bits(form, sign, multiple, unit), flags]
 
 
-def overflowed(sign, q, r):
+def overflowed(form, sign, q, r):
     if r == CUT or (r == DOWN and sign == 0) or (r == UPWARD and sign == 1):
-        greatest = finite_bits(sign, (1 << q) - 1, GREATEST_EXPONENT - q + 1)
+        greatest = value_bits(form, sign, (1 << q) - 1, form.greatest_exponent - q + 1)
         return [greatest, OVERFLOW + INEXACT]
-    return [infinite_bits(sign), OVERFLOW + INEXACT + UP]
+    return [endless_bits(form, sign), OVERFLOW + INEXACT + UP]

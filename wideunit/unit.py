@@ -2,12 +2,14 @@
 
 from wideunit.arithmetic import added, divided, multiplied, square_root, subtracted
 from wideunit.compare import compared, compared_quietly, examined
-from wideunit.floats import Number, too_many_bits, turned, without_sign, zero_bits
+from wideunit.floats import Number, turned, without_sign, zero_bits
+from wideunit.formats import extended_format, narrow_format, too_many_bits
+from wideunit.loading import loaded_narrow, loaded_whole, whole_is_too_far
 from wideunit.operands import no_number_told, with_small_told
 from wideunit.powers import extracted, rounded_to_whole, scaled
 from wideunit.remainder import remainder
 
-TOO_MANY_BITS = -1
+BEYOND = -1
 
 ADD = 0
 SUB = 1
@@ -28,10 +30,14 @@ TST = 5
 XAM = 6
 
 
+def too_wide(bits):
+    return too_many_bits(extended_format(), bits)
+
+
 def two(op, q, r, a, b):
     """add, sub, mul, div, prem, prem1, scale, com or ucom, by op from 0 on, of the bits a and b."""
-    if too_many_bits(a) or too_many_bits(b):
-        return [TOO_MANY_BITS]
+    if too_wide(a) or too_wide(b):
+        return [BEYOND]
     return [0] + told_of_two(op, q, r, Number(a), Number(b))
 
 
@@ -64,8 +70,8 @@ def result_of_two(op, q, r, a, b):
 
 def one(op, q, r, a):
     """sqrt, rint, abs, chs, extract, tst or xam, by op from 0 on, of the bits a."""
-    if too_many_bits(a):
-        return [TOO_MANY_BITS]
+    if too_wide(a):
+        return [BEYOND]
     return [0] + told_of_one(op, q, r, Number(a))
 
 
@@ -92,3 +98,18 @@ def result_of_one(op, q, r, a):
     if op == RINT:
         return rounded_to_whole(a, r)
     return extracted(a)
+
+
+def load(f, x):
+    """The number of a single one's (f 1) or a double one's (f 2) bits x."""
+    form = narrow_format(f)
+    if too_many_bits(form, x):
+        return [BEYOND]
+    return [0] + loaded_narrow(form, x)
+
+
+def loadw(z):
+    """The number of a whole number."""
+    if whole_is_too_far(z):
+        return [BEYOND]
+    return [0, loaded_whole(z)]
