@@ -134,23 +134,31 @@ def up_flag(came, x):
     return UPPED if abs(came) > abs(x) else 0
 
 
-@lru_cache(maxsize=200000)
-def rounded(x, q, r):
-    """The bits and flags of an exact value that isn't 0."""
-    negative = 1 if x < 0 else 0
+def rounded_value(x, q, r, emin, emax):
+    """The value and flags of an exact value that isn't 0; None for an infinite one."""
     y = multiple(x, power_of_two(exponent(x) - q + 1), r)
-    if abs(y) >= power_of_two(EMAX + 1):
+    if abs(y) >= power_of_two(emax + 1):
         if r == CUT or (r == DOWN and x > 0) or (r == UP and x < 0):
-            size = ((1 << q) - 1) * power_of_two(EMAX - q + 1)
-            return floats_bits(-size if negative else size), OVERFLOW + INEXACT
-        return (MINUS_INF if negative else PLUS_INF), OVERFLOW + INEXACT + UPPED
-    if abs(y) < power_of_two(EMIN):
-        came = multiple(x, power_of_two(EMIN - q + 1), r)
+            size = ((1 << q) - 1) * power_of_two(emax - q + 1)
+            return -size if x < 0 else size, OVERFLOW + INEXACT
+        return None, OVERFLOW + INEXACT + UPPED
+    if abs(y) < power_of_two(emin):
+        came = multiple(x, power_of_two(emin - q + 1), r)
         flags = 0 if came == x else UNDERFLOW + INEXACT
     else:
         came = y
         flags = 0 if came == x else INEXACT
-    return floats_bits(came, negative), flags + up_flag(came, x)
+    return came, flags + up_flag(came, x)
+
+
+@lru_cache(maxsize=200000)
+def rounded(x, q, r):
+    """The bits and flags of an exact value that isn't 0."""
+    negative = 1 if x < 0 else 0
+    came, flags = rounded_value(x, q, r, EMIN, EMAX)
+    if came is None:
+        return (MINUS_INF if negative else PLUS_INF), flags
+    return floats_bits(came, negative), flags
 
 
 def signed(bits, s):
@@ -393,6 +401,46 @@ def told_by_load(f, x):
 def told_by_loadw(z):
     """The whole answer that the document asks of loadw."""
     return [0, floats_bits(z)] if -(1 << 63) <= z <= (1 << 63) - 1 else [-1]
+
+
+def told_by_loadp(packed):
+    """The whole answer that the document asks of loadp."""
+    text = bytes(packed[8::-1]).hex()
+    if not text.isdecimal():
+        return [-2]
+    s = packed[9] >> 7
+    return [0, floats_bits(-int(text) if s else int(text), s)]
+
+
+def narrow_bits(f, x, s):
+    """The bits of the single or double one of the value x; there must be one."""
+    p, emin, emax = FORMATS[f][:3]
+    if x == 0:
+        return narrow_joined(f, s, 0, 0)
+    e = max(exponent(x), emin)
+    m = abs(x) / power_of_two(e - p + 1)
+    assert m.denominator == 1 and m < 1 << p and e <= emax
+    m = int(m)
+    return narrow_joined(f, s, e + emax if m >> p - 1 else 0, m & (1 << p - 1) - 1)
+
+
+def told_by_store(f, r, a):
+    """The whole answer that the document asks of store."""
+    if a >= 1 << 80:
+        return [-1]
+    p, emin, emax = FORMATS[f][:3]
+    endless = narrow_joined(f, sign(a), 2 * emax + 1, 0)
+    if kind(a) == "odd":
+        return [0, narrow_joined(f, 1, 2 * emax + 1, 1 << p - 2), INVALID]
+    if kind(a) in ("quiet", "loud"):
+        fraction = (a & HIGH - 1) >> 64 - p | 1 << p - 2
+        return [0, endless | fraction, INVALID if kind(a) == "loud" else 0]
+    if kind(a) == "infinite":
+        return [0, endless, 0]
+    if kind(a) == "zero":
+        return [0, narrow_joined(f, sign(a), 0, 0), 0]
+    came, flags = rounded_value(value(a), p, r, emin, emax)
+    return [0, endless if came is None else narrow_bits(f, came, sign(a)), flags]
 
 
 def hexed(told):

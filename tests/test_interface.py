@@ -13,7 +13,7 @@ import wideunit.unit
 from tests.support import (
     EXTRACT, GREATEST, LEAST, LOUD, MINUS_INF, MINUS_ONE, MOST, NARROW, NEARLY_SMALL, ODD_ONES, ONE, ONE_OPS, PLUS_INF,
     PLUS_ZERO, PRECISIONS, PREM, PREM1, QUIET, ROUNDINGS, TOO_MANY, TWO_OPS, ext)
-from wideunit.unit import load, loadw, one, two
+from wideunit.unit import load, loadp, loadw, one, store, two
 
 ROOT = pathlib.Path(__file__).resolve().parent.parent
 OPERANDS = (
@@ -21,7 +21,8 @@ OPERANDS = (
     ext(0xC000, 0xC90FDAA22168C235), TOO_MANY[0])
 NARROW_BITS = (0, 1, 0x3F800000, 0x7F800000, 0x7F800001, 0xFFC00000, 0x7FF0000000000001, (1 << 64) - 1, 1 << 64, MOST)
 WHOLE = (0, 1, -1, (1 << 63) - 1, -(1 << 63), 1 << 63, -(1 << 63) - 1, MOST, -MOST - 1)
-ARGUMENTS = {two: "op q r a b", one: "op q r a", load: "f x", loadw: "z"}
+PACKED = ((0,) * 10, (0x34, 0x12, 0, 0, 0, 0, 0, 0, 0, 0x80), (0x99,) * 9 + (0xFF,), (0,) * 8 + (0xA0, 0))
+ARGUMENTS = {two: "op q r a b", one: "op q r a", load: "f x", loadw: "z", loadp: "packed", store: "f r a"}
 
 
 def calls():
@@ -38,21 +39,32 @@ def calls():
             yield load, (f, x)
     for z in WHOLE:
         yield loadw, (z,)
+    for packed in PACKED:
+        yield loadp, (list(packed),)
+    for r in ROUNDINGS:
+        for a in OPERANDS:
+            for f in NARROW:
+                yield store, (f, r, a)
 
 
-def is_refused(call, handed):
+def refusal(call, handed):
+    """The number of the refusal, or 0."""
+    if call is loadp:
+        return -2 if handed[0][8] > 0x99 else 0
     if call is load:
-        return handed[1] >= 1 << (32 if handed[0] == 1 else 64)
-    if call is loadw:
-        return not -(1 << 63) <= handed[0] < 1 << 63
-    return TOO_MANY[0] in handed
+        refused = handed[1] >= 1 << (32 if handed[0] == 1 else 64)
+    elif call is loadw:
+        refused = not -(1 << 63) <= handed[0] < 1 << 63
+    else:
+        refused = TOO_MANY[0] in handed
+    return -1 if refused else 0
 
 
 def how_many(call, handed):
     """How many numbers are told behind the 0."""
     if call is two and handed[0] in (PREM, PREM1) or call is one and handed[0] == EXTRACT:
         return 3
-    return 1 if call is loadw else 2
+    return 1 if call in (loadw, loadp) else 2
 
 
 class GivenBack(unittest.TestCase):
@@ -65,8 +77,8 @@ class GivenBack(unittest.TestCase):
     def test_how_many(self):
         for call, handed in calls():
             told = call(*handed)
-            if is_refused(call, handed):
-                self.assertEqual(told, [-1])
+            if refusal(call, handed):
+                self.assertEqual(told, [refusal(call, handed)])
                 continue
             self.assertEqual(told[0], 0)
             self.assertEqual(len(told), 1 + how_many(call, handed), (call, handed))
@@ -80,6 +92,24 @@ class GivenBack(unittest.TestCase):
         self.assertEqual(one(op=2, q=64, r=0, a=MINUS_ONE), [0, ONE, 0])
         self.assertEqual(load(f=1, x=0x3F800000), [0, ONE, 0])
         self.assertEqual(loadw(z=-1), [0, MINUS_ONE])
+        self.assertEqual(loadp(packed=[1, 0, 0, 0, 0, 0, 0, 0, 0, 0x80]), [0, MINUS_ONE])
+        self.assertEqual(store(f=1, r=0, a=ONE), [0, 0x3F800000, 0])
+
+
+class Untouchable(list):
+    """A list that fails where it would be changed."""
+
+    def refuse(self, *handed, **named):
+        raise AssertionError("what is handed in is changed")
+
+    __setitem__ = __delitem__ = __iadd__ = __imul__ = refuse
+    append = clear = extend = insert = pop = remove = reverse = sort = refuse
+
+
+class HandedIn(unittest.TestCase):
+    def test_is_not_changed_even_for_a_while(self):
+        for packed in PACKED:
+            self.assertEqual(loadp(Untouchable(packed)), loadp(list(packed)))
 
 
 class NothingKept(unittest.TestCase):

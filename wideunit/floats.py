@@ -14,6 +14,8 @@ ODD = "odd"
 DIGITS = 64
 LEAST_EXPONENT = -16382
 
+# The places of the significand below its highest bit.
+FRACTION_PLACES = 63
 SIGN_PLACE = 79
 ALL_EXPONENT_BITS = 0x7FFF
 ALL_SIGNIFICAND_BITS = 0xFFFFFFFFFFFFFFFF

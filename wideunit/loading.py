@@ -1,12 +1,9 @@
 """Singles, doubles and whole numbers taken in as extended numbers."""
 
 from wideunit.codes import SMALL_IN
-from wideunit.floats import Number, finite_bits, infinite_bits
+from wideunit.floats import FRACTION_PLACES, Number, finite_bits, infinite_bits
 from wideunit.formats import shown_bits
 from wideunit.operands import no_number_told
-
-# The places of the significand below its highest bit.
-FRACTION_PLACES = 63
 
 
 def loaded_narrow(form, x):

@@ -6,10 +6,13 @@ from wideunit.floats import Number, turned, without_sign, zero_bits
 from wideunit.formats import extended_format, narrow_format, too_many_bits
 from wideunit.loading import loaded_narrow, loaded_whole, whole_is_too_far
 from wideunit.operands import no_number_told, with_small_told
+from wideunit.packed import has_wrong_digit, loaded_packed
 from wideunit.powers import extracted, rounded_to_whole, scaled
 from wideunit.remainder import remainder
+from wideunit.storing import stored_narrow
 
 BEYOND = -1
+WRONG_DIGIT = -2
 
 ADD = 0
 SUB = 1
@@ -113,3 +116,17 @@ def loadw(z):
     if whole_is_too_far(z):
         return [BEYOND]
     return [0, loaded_whole(z)]
+
+
+def loadp(packed):
+    """The number of ten bytes of packed decimal digits."""
+    if has_wrong_digit(packed):
+        return [WRONG_DIGIT]
+    return [0, loaded_packed(packed)]
+
+
+def store(f, r, a):
+    """The bits a as those of a single one (f 1) or a double one (f 2)."""
+    if too_wide(a):
+        return [BEYOND]
+    return [0] + stored_narrow(narrow_format(f), r, Number(a))
