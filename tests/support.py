@@ -52,6 +52,9 @@ ODD_ONES = (
 MOST = 79228162514264337593543950335
 TOO_MANY = (1 << 80, (1 << 80) + ONE, MOST)
 
+WIDTHS = (16, 32, 64)
+NOT_PACKED = [0, 0, 0, 0, 0, 0, 0, 0xC0, 0xFF, 0xFF]
+
 SINGLE, DOUBLE = NARROW = (1, 2)
 # By format: the digits, the least and the greatest exponent, how many bits there are in all.
 FORMATS = {SINGLE: (24, -126, 127, 32), DOUBLE: (53, -1022, 1023, 64)}
@@ -308,12 +311,20 @@ def root_told(q, r, a):
     return list(rounded(root_with_more_digits(value(a)), q, r))
 
 
+def whole_told(r, a):
+    """The whole number that a becomes and the flags; None if a isn't finite."""
+    if kind(a) in ("infinite", "quiet", "loud", "odd"):
+        return None
+    x = value(a)
+    came = multiple(x, Fraction(1), r)
+    return int(came), 0 if came == x else INEXACT + up_flag(came, x)
+
+
 def rint_told(r, a):
     if kind(a) in ("zero", "infinite"):
         return [a, 0]
-    x = value(a)
-    came = multiple(x, Fraction(1), r)
-    return [floats_bits(came, sign(a)), 0 if came == x else INEXACT + up_flag(came, x)]
+    came, flags = whole_told(r, a)
+    return [floats_bits(came, sign(a)), flags]
 
 
 def extract_told(a):
@@ -441,6 +452,31 @@ def told_by_store(f, r, a):
         return [0, narrow_joined(f, sign(a), 0, 0), 0]
     came, flags = rounded_value(value(a), p, r, emin, emax)
     return [0, endless if came is None else narrow_bits(f, came, sign(a)), flags]
+
+
+def told_by_storew(n, r, a):
+    """The whole answer that the document asks of storew."""
+    if a >= 1 << 80:
+        return [-1]
+    came = whole_told(r, a)
+    if came is None or not -(1 << n - 1) <= came[0] <= (1 << n - 1) - 1:
+        return [0, -(1 << n - 1), INVALID]
+    return [0, *came]
+
+
+def told_by_storep(r, a):
+    """The whole answer that the document asks of storep."""
+    if a >= 1 << 80:
+        return [-1]
+    came = whole_told(r, a)
+    if came is None or abs(came[0]) >= 10 ** 18:
+        return [0, *NOT_PACKED, INVALID]
+    return [0, *packed(abs(came[0]), sign(a)), came[1]]
+
+
+def packed(size, s):
+    """The ten bytes of a size and a sign."""
+    return [*bytes.fromhex(f"{size:018d}")[::-1], 0x80 if s else 0]
 
 
 def hexed(told):

@@ -12,8 +12,8 @@ import unittest
 import wideunit.unit
 from tests.support import (
     EXTRACT, GREATEST, LEAST, LOUD, MINUS_INF, MINUS_ONE, MOST, NARROW, NEARLY_SMALL, ODD_ONES, ONE, ONE_OPS, PLUS_INF,
-    PLUS_ZERO, PRECISIONS, PREM, PREM1, QUIET, ROUNDINGS, TOO_MANY, TWO_OPS, ext)
-from wideunit.unit import load, loadp, loadw, one, store, two
+    PLUS_ZERO, PRECISIONS, PREM, PREM1, QUIET, ROUNDINGS, TOO_MANY, TWO_OPS, WIDTHS, ext)
+from wideunit.unit import load, loadp, loadw, one, store, storep, storew, two
 
 ROOT = pathlib.Path(__file__).resolve().parent.parent
 OPERANDS = (
@@ -22,7 +22,9 @@ OPERANDS = (
 NARROW_BITS = (0, 1, 0x3F800000, 0x7F800000, 0x7F800001, 0xFFC00000, 0x7FF0000000000001, (1 << 64) - 1, 1 << 64, MOST)
 WHOLE = (0, 1, -1, (1 << 63) - 1, -(1 << 63), 1 << 63, -(1 << 63) - 1, MOST, -MOST - 1)
 PACKED = ((0,) * 10, (0x34, 0x12, 0, 0, 0, 0, 0, 0, 0, 0x80), (0x99,) * 9 + (0xFF,), (0,) * 8 + (0xA0, 0))
-ARGUMENTS = {two: "op q r a b", one: "op q r a", load: "f x", loadw: "z", loadp: "packed", store: "f r a"}
+ARGUMENTS = {
+    two: "op q r a b", one: "op q r a", load: "f x", loadw: "z", loadp: "packed", store: "f r a", storew: "n r a",
+    storep: "r a"}
 
 
 def calls():
@@ -45,6 +47,9 @@ def calls():
         for a in OPERANDS:
             for f in NARROW:
                 yield store, (f, r, a)
+            for n in WIDTHS:
+                yield storew, (n, r, a)
+            yield storep, (r, a)
 
 
 def refusal(call, handed):
@@ -64,6 +69,8 @@ def how_many(call, handed):
     """How many numbers are told behind the 0."""
     if call is two and handed[0] in (PREM, PREM1) or call is one and handed[0] == EXTRACT:
         return 3
+    if call is storep:
+        return 11
     return 1 if call in (loadw, loadp) else 2
 
 
@@ -82,7 +89,17 @@ class GivenBack(unittest.TestCase):
                 continue
             self.assertEqual(told[0], 0)
             self.assertEqual(len(told), 1 + how_many(call, handed), (call, handed))
-            self.assertTrue(all(0 <= x < 1 << 80 for x in told))
+            self.assert_in_range(call, handed, told)
+
+    def assert_in_range(self, call, handed, told):
+        low, high = 0, 1 << 80
+        if call is storew:
+            low, high = -(1 << handed[0] - 1), 1 << handed[0] - 1
+        elif call is storep:
+            high = 1 << 8
+        elif call is store:
+            high = 1 << (32 if handed[0] == 1 else 64)
+        self.assertTrue(all(low <= x < high for x in told), (call, handed, told))
 
     def test_names_of_the_arguments(self):
         for call, names in ARGUMENTS.items():
@@ -94,6 +111,8 @@ class GivenBack(unittest.TestCase):
         self.assertEqual(loadw(z=-1), [0, MINUS_ONE])
         self.assertEqual(loadp(packed=[1, 0, 0, 0, 0, 0, 0, 0, 0, 0x80]), [0, MINUS_ONE])
         self.assertEqual(store(f=1, r=0, a=ONE), [0, 0x3F800000, 0])
+        self.assertEqual(storew(n=16, r=0, a=MINUS_ONE), [0, -1, 0])
+        self.assertEqual(storep(r=0, a=MINUS_ONE), [0, 1, 0, 0, 0, 0, 0, 0, 0, 0, 0x80, 0])
 
 
 class Untouchable(list):
@@ -175,11 +194,11 @@ class NothingElseDone(unittest.TestCase):
                 deepest = max(deepest, depth)
 
         own = len(inspect.stack())
-        far = ((two, (op, 64, 0, GREATEST, LEAST)) for op in TWO_OPS)
-        wide = ((one, (op, 64, 0, a)) for op in ONE_OPS for a in (GREATEST, LEAST))
+        far = [(two, (op, 64, 0, GREATEST, LEAST)) for op in TWO_OPS]
+        wide = [(call, handed) for call, handed in calls() if call is not two]
         sys.setprofile(watch)
         try:
-            for call, handed in [*far, *wide]:
+            for call, handed in far + wide:
                 call(*handed)
         finally:
             sys.setprofile(None)

@@ -59,6 +59,10 @@ def is_no_number(number):
     return number.kind in (QUIET, LOUD, ODD)
 
 
+def is_finite(number):
+    return number.kind != INFINITE and not is_no_number(number)
+
+
 def exponent_of(number):
     """The e with 2^e <= size < 2^(e + 1), of a finite number that isn't 0."""
     return number.significand.bit_length() - 1 + number.power

@@ -4,7 +4,7 @@ from wideunit.codes import DIVIDED_BY_ZERO, INVALID
 from wideunit.floats import DIGITS, EMPTY, INFINITE, ZERO
 from wideunit.floats import exponent_of, finite_bits, infinite_bits, zero_bits
 from wideunit.formats import shifted
-from wideunit.rounding import flags_of_loss, rounded, rounded_multiple
+from wideunit.rounding import rounded, rounded_whole
 
 # Scaled by more than this, the least number overflows and the greatest comes below the least.
 FAR = 40000
@@ -45,5 +45,5 @@ def extracted(a):
 def rounded_to_whole(a, r):
     if a.kind in (ZERO, INFINITE):
         return [a.bits, 0]
-    whole = rounded_multiple(a.sign, a.significand, a.power, 0, r)
-    return [finite_bits(a.sign, whole, 0), flags_of_loss(whole, 0, a.significand, a.power)]
+    came = rounded_whole(a.sign, a.significand, a.power, r)
+    return [finite_bits(a.sign, came[0], 0), came[1]]

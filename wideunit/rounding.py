@@ -38,6 +38,12 @@ def flags_of_loss(multiple, unit, size, power):
     return INEXACT + UP if came > size else INEXACT
 
 
+def rounded_whole(sign, size, power, r):
+    """The size of the whole number that the value becomes, and the flags."""
+    whole = rounded_multiple(sign, size, power, 0, r)
+    return [whole, flags_of_loss(whole, 0, size, power)]
+
+
 def rounded(sign, size, power, q, r):
     """The extended float of a value that isn't 0, to q digits: its bits and flags."""
     return rounded_to(extended_format(), sign, size, power, q, r)

@@ -6,10 +6,10 @@ from wideunit.floats import Number, turned, without_sign, zero_bits
 from wideunit.formats import extended_format, narrow_format, too_many_bits
 from wideunit.loading import loaded_narrow, loaded_whole, whole_is_too_far
 from wideunit.operands import no_number_told, with_small_told
-from wideunit.packed import has_wrong_digit, loaded_packed
+from wideunit.packed import has_wrong_digit, loaded_packed, stored_packed
 from wideunit.powers import extracted, rounded_to_whole, scaled
 from wideunit.remainder import remainder
-from wideunit.storing import stored_narrow
+from wideunit.storing import stored_narrow, stored_whole
 
 BEYOND = -1
 WRONG_DIGIT = -2
@@ -130,3 +130,17 @@ def store(f, r, a):
     if too_wide(a):
         return [BEYOND]
     return [0] + stored_narrow(narrow_format(f), r, Number(a))
+
+
+def storew(n, r, a):
+    """The bits a as a whole number of n digits of two, 16, 32 or 64, one of them for the sign."""
+    if too_wide(a):
+        return [BEYOND]
+    return [0] + stored_whole(n, r, Number(a))
+
+
+def storep(r, a):
+    """The bits a as ten bytes of packed decimal digits."""
+    if too_wide(a):
+        return [BEYOND]
+    return [0] + stored_packed(r, Number(a))
