@@ -1,11 +1,11 @@
-"""The document's own examples that are of two and one."""
+"""The document's own examples, and the floats that it writes out."""
 
 import unittest
 
 from tests.support import (
     ADD, COM, CUT, DIV, DOWN, EXTRACT, HIGH, MINUS_ZERO, NEAR, ONE, PLUS_ZERO, PREM, PREM1, RINT, SCALE, SUB, UCOM, UP,
     ext)
-from wideunit.unit import one, two
+from wideunit.unit import constant, load, loadp, loadw, one, store, storep, storew, two
 
 TWO = ext(0x4000, HIGH)
 THREE = ext(0x4000, 0xC000000000000000)
@@ -59,6 +59,41 @@ class Examples(unittest.TestCase):
 
     def test_one_is_one(self):
         self.assertEqual(two(ADD, 64, NEAR, PLUS_ZERO, ONE), [0, 0x3FFF8000000000000000, 0])
+        self.assertEqual(loadw(1), [0, 0x3FFF8000000000000000])
+        self.assertEqual(load(1, 0x3F800000), [0, 0x3FFF8000000000000000, 0])
+
+    def test_store_whole(self):
+        # 32767.5, as half of 65535.
+        number = two(DIV, 64, NEAR, loadw(65535)[1], TWO)
+        self.assertEqual(number, [0, ext(0x400D, 0xFFFF000000000000), 0])
+        self.assertEqual(storew(16, NEAR, number[1]), [0, -32768, 1])
+
+    def test_store_packed(self):
+        number = loadw(-1234)[1]
+        told = [0x34, 0x12, 0x00, 0x00, 0x00, 0x00, 0x00, 0x00, 0x00, 0x80]
+        self.assertEqual(storep(NEAR, number), [0, *told, 0])
+        self.assertEqual(loadp(told), [0, number])
+
+    def test_the_bits_of_thirteen(self):
+        self.assertEqual(two(COM, 64, NEAR, ONE, QUIET)[1], 1 + 4 + 8)
+
+    def test_the_empty_ones(self):
+        empty = 0xFFFFC000000000000000
+        odd = ext(0x3FFF, 0)
+        self.assertEqual(two(ADD, 64, NEAR, odd, ONE), [0, empty, 1])
+        self.assertEqual(store(1, NEAR, odd), [0, 0xFFC00000, 1])
+        self.assertEqual(store(2, NEAR, odd), [0, 0xFFF8000000000000, 1])
+        self.assertEqual(load(1, 0xFFC00000), [0, empty, 0])
+        self.assertEqual(load(2, 0xFFF8000000000000), [0, empty, 0])
+
+    def test_constants(self):
+        lower = (
+            0x4000D49A784BCD1B8AFE, 0x3FFFB8AA3B295C17F0BB, 0x4000C90FDAA22168C234, 0x3FFD9A209A84FBCFF798,
+            0x3FFEB17217F7D1CF79AB)
+        for k, bits in enumerate(lower, start=1):
+            self.assertEqual([constant(k, r) for r in (DOWN, CUT)], [[0, bits]] * 2)
+            self.assertEqual(constant(k, UP), [0, bits + 1])
+            self.assertEqual(constant(k, NEAR), [0, bits if k == 1 else bits + 1])
 
 
 if __name__ == "__main__":

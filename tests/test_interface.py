@@ -11,9 +11,9 @@ import unittest
 
 import wideunit.unit
 from tests.support import (
-    EXTRACT, GREATEST, LEAST, LOUD, MINUS_INF, MINUS_ONE, MOST, NARROW, NEARLY_SMALL, ODD_ONES, ONE, ONE_OPS, PLUS_INF,
-    PLUS_ZERO, PRECISIONS, PREM, PREM1, QUIET, ROUNDINGS, TOO_MANY, TWO_OPS, WIDTHS, ext)
-from wideunit.unit import load, loadp, loadw, one, store, storep, storew, two
+    CONSTANTS, EXTRACT, GREATEST, LEAST, LOUD, MINUS_INF, MINUS_ONE, MOST, NARROW, NEARLY_SMALL, ODD_ONES, ONE, ONE_OPS,
+    PLUS_INF, PLUS_ZERO, PRECISIONS, PREM, PREM1, QUIET, ROUNDINGS, TOO_MANY, TWO_OPS, WIDTHS, ext)
+from wideunit.unit import constant, load, loadp, loadw, one, store, storep, storew, two
 
 ROOT = pathlib.Path(__file__).resolve().parent.parent
 OPERANDS = (
@@ -24,7 +24,7 @@ WHOLE = (0, 1, -1, (1 << 63) - 1, -(1 << 63), 1 << 63, -(1 << 63) - 1, MOST, -MO
 PACKED = ((0,) * 10, (0x34, 0x12, 0, 0, 0, 0, 0, 0, 0, 0x80), (0x99,) * 9 + (0xFF,), (0,) * 8 + (0xA0, 0))
 ARGUMENTS = {
     two: "op q r a b", one: "op q r a", load: "f x", loadw: "z", loadp: "packed", store: "f r a", storew: "n r a",
-    storep: "r a"}
+    storep: "r a", constant: "k r"}
 
 
 def calls():
@@ -50,10 +50,14 @@ def calls():
             for n in WIDTHS:
                 yield storew, (n, r, a)
             yield storep, (r, a)
+        for k in CONSTANTS:
+            yield constant, (k, r)
 
 
 def refusal(call, handed):
     """The number of the refusal, or 0."""
+    if call is constant:
+        return 0
     if call is loadp:
         return -2 if handed[0][8] > 0x99 else 0
     if call is load:
@@ -71,7 +75,7 @@ def how_many(call, handed):
         return 3
     if call is storep:
         return 11
-    return 1 if call in (loadw, loadp) else 2
+    return 1 if call in (loadw, loadp, constant) else 2
 
 
 class GivenBack(unittest.TestCase):
@@ -112,6 +116,7 @@ class GivenBack(unittest.TestCase):
         self.assertEqual(loadp(packed=[1, 0, 0, 0, 0, 0, 0, 0, 0, 0x80]), [0, MINUS_ONE])
         self.assertEqual(store(f=1, r=0, a=ONE), [0, 0x3F800000, 0])
         self.assertEqual(storew(n=16, r=0, a=MINUS_ONE), [0, -1, 0])
+        self.assertEqual(constant(k=0, r=0), [0, ONE])
         self.assertEqual(storep(r=0, a=MINUS_ONE), [0, 1, 0, 0, 0, 0, 0, 0, 0, 0, 0x80, 0])
 
 

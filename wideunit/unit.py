@@ -2,11 +2,12 @@
 
 from wideunit.arithmetic import added, divided, multiplied, square_root, subtracted
 from wideunit.compare import compared, compared_quietly, examined
+from wideunit.constants import constant_bits
 from wideunit.floats import Number, turned, without_sign, zero_bits
 from wideunit.formats import extended_format, narrow_format, too_many_bits
 from wideunit.loading import loaded_narrow, loaded_whole, whole_is_too_far
 from wideunit.operands import no_number_told, with_small_told
-from wideunit.packed import has_wrong_digit, loaded_packed, stored_packed
+from wideunit.packing import has_wrong_digit, loaded_packed, stored_packed
 from wideunit.powers import extracted, rounded_to_whole, scaled
 from wideunit.remainder import remainder
 from wideunit.storing import stored_narrow, stored_whole
@@ -144,3 +145,8 @@ def storep(r, a):
     if too_wide(a):
         return [BEYOND]
     return [0] + stored_packed(r, Number(a))
+
+
+def constant(k, r):
+    """1, the logarithms of 10 and e to 2, pi, the logarithms of 2 to 10 and e, plus zero, by k from 0 on."""
+    return [0, constant_bits(k, r)]
